@@ -571,8 +571,9 @@ func callAll(a impl.State, b impl.State) {
 	}
 }
 
-func TestNothingIsWrittenIntoStates(t *testing.T) {
-	all := ordinaryStates()
+// checkNothingWritten calls with each two of these states, and the wrong ones, and looks at them and the room behind them.
+func checkNothingWritten(t *testing.T, all []impl.State, call func(a impl.State, b impl.State)) {
+	t.Helper()
 	for _, s := range wrongStates() {
 		all = append(all, s)
 	}
@@ -581,14 +582,16 @@ func TestNothingIsWrittenIntoStates(t *testing.T) {
 			a, roomA := roomy(x)
 			b, roomB := roomy(y)
 			wasA, wasB := cloneState(roomA), cloneState(roomB)
-			callAll(a, b)
-			callAll(a, a)
+			call(a, b)
+			call(a, a)
 			if !sameState(roomA, wasA) || !sameState(roomB, wasB) {
 				t.Fatalf("%v, %v became %v, %v", wasA, wasB, roomA, roomB)
 			}
 		}
 	}
 }
+
+func TestNothingIsWrittenIntoStates(t *testing.T) { checkNothingWritten(t, ordinaryStates(), callAll) }
 
 // scribble turns all that a state holds, and the spare room behind it.
 func scribble(s impl.State) {
