@@ -699,24 +699,27 @@ func textsOfLog(l impl.Log) []span {
 	return out
 }
 
-func checkApart(t *testing.T, why string, answer impl.Log, given impl.Log, d impl.State) {
+// checkSpansApart: no two lists of the answer share memory, and neither do its lists or texts and what was given.
+func checkSpansApart(t *testing.T, why string, lists []span, texts []span, given []span) {
 	t.Helper()
-	mine := listsOfLog(answer)
-	for i, a := range mine {
-		for _, b := range mine[:i] {
+	for i, a := range lists {
+		for _, b := range lists[:i] {
 			if a.meets(b) {
 				t.Errorf("%s: two lists of the answer share memory", why)
 			}
 		}
 	}
-	theirs := slices.Concat(listsOfLog(given), textsOfLog(given), listsOf(d), textsOf(d))
-	for _, a := range slices.Concat(mine, textsOfLog(answer)) {
-		for _, b := range theirs {
-			if a.meets(b) {
-				t.Errorf("%s: the answer shares memory with an argument", why)
-			}
+	for _, a := range slices.Concat(lists, texts) {
+		if slices.ContainsFunc(given, a.meets) {
+			t.Errorf("%s: the answer shares memory with an argument", why)
 		}
 	}
+}
+
+func checkApart(t *testing.T, why string, answer impl.Log, given impl.Log, d impl.State) {
+	t.Helper()
+	theirs := slices.Concat(listsOfLog(given), textsOfLog(given), listsOf(d), textsOf(d))
+	checkSpansApart(t, why, listsOfLog(answer), textsOfLog(answer), theirs)
 }
 
 // tangledLogs: logs whose changes share their lists with each other, or are pieces of one.

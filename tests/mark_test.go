@@ -786,19 +786,7 @@ func spansOfTable(t [][]int) []span {
 
 func checkTableApart(t *testing.T, why string, answer [][]int, given [][]int) {
 	t.Helper()
-	mine := spansOfTable(answer)
-	for i, a := range mine {
-		for _, b := range mine[:i] {
-			if a.meets(b) {
-				t.Errorf("%s: two lists of the answer share memory", why)
-			}
-		}
-		for _, b := range spansOfTable(given) {
-			if a.meets(b) {
-				t.Errorf("%s: the answer shares memory with an argument", why)
-			}
-		}
-	}
+	checkSpansApart(t, why, spansOfTable(answer), nil, spansOfTable(given))
 }
 
 // Rows that are one and the same list, or pieces of one, are rows by themselves in the answer, and row k alone has turned.
